@@ -35,6 +35,14 @@ def let_count(game, much, row):
     return [earlier]
 
 
+def show_row(game, row):
+    """The call row: how much a row that's asked counts, and which rows of answers win there."""
+    if not is_asked(game, row):
+        return [NOT_AS_TOLD]
+    place = place_of_row(game, row)
+    return [game.weights[place], game.winning[place]]
+
+
 def is_asked(game, row):
     """Whether a row has a question for each person."""
     if len(row) != game.persons:
@@ -48,6 +56,15 @@ def place_of_row(game, row):
     for question in row:
         place = place * game.questions + question
     return place
+
+
+def row_at(game, place):
+    """The row that's asked at a place among all of them."""
+    row = []
+    for person in range(game.persons):
+        row.insert(0, place % game.questions)
+        place = place // game.questions
+    return row
 
 
 def rows_with_parity(persons, parity):

@@ -1,10 +1,15 @@
 """What one object keeps from call to call, and how it is begun."""
 
 from sharedspins.refusals import NOT_AS_TOLD
+from sharedspins.spins import set_spins
 
 
 class Game:
-    """A game and its spins; weights and winning have one number for each row that's asked."""
+    """A game and its spins.
+
+    weights and winning have a number for each row that's asked; own has a measurement for each
+    person's each question, in a plan's order; sure has as many measurements as there are spins.
+    """
 
     def __init__(self):
         self.begun = False
@@ -14,6 +19,9 @@ class Game:
         self.winning = []
         self.owners = []
         self.links = []
+        self.sure = []
+        self.measured = False
+        self.own = []
 
 
 def begin(game, persons, questions):
@@ -26,9 +34,14 @@ def begin(game, persons, questions):
     game.questions = questions
     game.weights = [1] * rows
     game.winning = [0] * rows
-    game.owners = []
-    game.links = []
+    set_spins(game, [])
     return [0]
+
+
+def show_state(game):
+    """The call state: how many there are of each, whether something was measured, whose each spin is."""
+    measured = 1 if game.measured else 0
+    return [game.persons, game.questions, len(game.owners), len(game.links), measured] + game.owners
 
 
 def may_begin(persons, questions):

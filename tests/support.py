@@ -8,9 +8,19 @@ MOST = 4294967295
 
 NONE_SUCH = [-2]
 NOT_BEGUN = [-11]
+SOMETHING_MEASURED = [-16]
 NOT_AS_TOLD = [-22]
+NOT_SURE_SO = [-33]
 
 BEST = [5]
+FRESH = [9]
+VALUE = [15]
+STATE = [17]
+
+# The letters.
+N, X, Y, Z = range(4)
+
+SIZES = [(2, 1), (2, 2), (2, 3), (3, 1), (3, 2), (4, 1), (4, 2)]
 
 
 def begin(persons, questions):
@@ -45,6 +55,30 @@ def link(i, j):
     return [8, i, j]
 
 
+def sure(letters):
+    return [10, len(letters)] + list(letters)
+
+
+def measure(outcome, letters):
+    return [11, outcome, len(letters)] + list(letters)
+
+
+def mine(person, question, sign, letters):
+    return [12, person, question, sign, len(letters)] + list(letters)
+
+
+def chance(row, answered):
+    return [13, len(row) + len(answered)] + list(row) + list(answered)
+
+
+def parity(row, some):
+    return [14, len(row) + len(some)] + list(row) + list(some)
+
+
+def row_call(row):
+    return [16, len(row)] + list(row)
+
+
 def flat(lists):
     return [number for numbers in lists for number in numbers]
 
@@ -75,10 +109,29 @@ def rows_asked(persons, questions):
     return [list(row) for row in product(range(questions), repeat=persons)]
 
 
-def looks(persons, questions):
-    """Calls that together show all that can be seen of a game; they change it, so they come last."""
-    shown = [BEST, plan([0] * (persons * questions))]
-    for row in rows_asked(persons, questions):
-        shown += [wins(0, row), counts(0, row)]
-    # A link to a spin that there isn't is refused, so these tell how many spins there are, too.
-    return shown + [link(i, j) for j in range(7) for i in range(j)]
+def bits(length):
+    """All rows of 0 and 1 of this length."""
+    return [list(row) for row in product([0, 1], repeat=length)]
+
+
+def all_letters(spins):
+    """All rows of letters for so many spins."""
+    return [list(row) for row in product(range(4), repeat=spins)]
+
+
+def letters_at(spins, placed):
+    """A row of letters for so many spins, with letters on these alone."""
+    return [placed.get(spin, N) for spin in range(spins)]
+
+
+def looks(persons, questions, spins=0):
+    """Calls that together show what can be seen of a game with so many spins, at most 3; they come last."""
+    rows = rows_asked(persons, questions)
+    every = [sure(letters) for letters in all_letters(spins)]
+    shown = [STATE, BEST, VALUE] + [row_call(row) for row in rows] + every
+    for row in rows:
+        shown += [parity(row, [1] * persons)] + [parity(row, [1] + [0] * (persons - 1))]
+    # These change what's sure: the links are seen, then each one's measurements, as all with letters Z are sure.
+    shown += [FRESH, STATE, VALUE] + every[::3]
+    shown += [measure(0, letters_at(spins, {spin: Z})) for spin in range(spins)] + [STATE, VALUE]
+    return shown + [parity(row, [1] * persons) for row in rows]

@@ -1,10 +1,9 @@
-"""Promise 1: wins, odd, counts."""
+"""Promise 1: wins, odd, counts, row."""
 
 import unittest
 
-from tests.support import (BEST, MOST, NOT_AS_TOLD, begin, counts, last, looks, odd, plan, rows_asked, run, wins)
-
-SIZES = [(2, 1), (2, 2), (2, 3), (3, 1), (3, 2), (4, 1), (4, 2)]
+from tests.support import (BEST, MOST, NOT_AS_TOLD, SIZES, begin, counts, last, looks, odd, plan, row_call, rows_asked,
+                           run, spins, wins)
 
 
 def wrong_rows(persons, questions):
@@ -118,6 +117,43 @@ class Counts(unittest.TestCase):
         self.assertEqual(found[2:], [[1], [11], [50]])
 
 
+class Row(unittest.TestCase):
+
+    def test_how_much_and_which(self):
+        found = run(begin(2, 2), row_call([0, 1]), wins(6, [0, 1]), row_call([0, 1]), counts(40, [0, 1]),
+                    row_call([0, 1]), odd(0, [0, 1]), row_call([0, 1]), counts(0, [0, 1]), row_call([0, 1]))
+        self.assertEqual(found[1::2], [[1, 0], [1, 6], [40, 6], [40, 9], [0, 9]])
+
+    def test_each_row_has_its_own(self):
+        for persons, questions in SIZES:
+            rows = rows_asked(persons, questions)
+            calls = [begin(persons, questions)]
+            for k, row in enumerate(rows):
+                calls += [wins(k + 1, row), counts(99 - k, row)]
+            found = run(*calls, *[row_call(row) for row in rows])
+            self.assertEqual(found[len(calls):], [[99 - k, k + 1] for k in range(len(rows))])
+
+    def test_the_greatest(self):
+        for persons, questions in SIZES:
+            most = 2 ** (2 ** persons) - 1
+            asked = [questions - 1] * persons
+            found = last(begin(persons, questions), wins(most, asked), counts(99, asked), row_call(asked))
+            self.assertEqual(found, [99, most])
+
+    def test_wrong_rows(self):
+        for persons, questions in SIZES:
+            for row in wrong_rows(persons, questions) + [[0] * 11, [0] * 12]:
+                self.assertEqual(last(begin(persons, questions), row_call(row)), NOT_AS_TOLD)
+
+    def test_nothing_is_changed(self):
+        shown = looks(2, 2, 2)
+        calls = [begin(2, 2), spins([0, 1]), wins(6, [1, 0]), counts(9, [1, 0])]
+        due = run(*calls, *shown)[-len(shown):]
+        found = run(*calls, row_call([1, 0]), row_call([1]), row_call([1, 0]), *shown)
+        self.assertEqual(found[-len(shown):], due)
+        self.assertEqual(found[-len(shown) - 1], [9, 6])
+
+
 class Refused(unittest.TestCase):
 
     def test_changes_nothing(self):
@@ -128,7 +164,7 @@ class Refused(unittest.TestCase):
         due = run(*calls, *shown)[-len(shown):]
         refused = [wins(16, [0, 1]), odd(2, [0, 1]), counts(100, [0, 1])]
         for row in wrong_rows(2, 2):
-            refused += [wins(1, row), odd(1, row), counts(1, row)]
+            refused += [wins(1, row), odd(1, row), counts(1, row), row_call(row)]
         for call in refused:
             found = run(*calls, call, *shown)
             self.assertEqual(found[-len(shown) - 1], NOT_AS_TOLD)

@@ -3,9 +3,8 @@
 import unittest
 from itertools import product
 
-from tests.support import BEST, MOST, NOT_AS_TOLD, begin, counts, last, looks, odd, plan, plans, rows_asked, run, wins
-
-SIZES = [(2, 1), (2, 2), (2, 3), (3, 1), (3, 2), (4, 1), (4, 2)]
+from tests.support import (BEST, MOST, NOT_AS_TOLD, SIZES, begin, counts, last, looks, odd, plan, plans, rows_asked,
+                           run, wins)
 
 # Two persons win if the sum is odd just where both are asked 1: no plan wins all four rows.
 ODD_AT_ONE = [begin(2, 2), odd(0, [0, 0]), odd(0, [0, 1]), odd(0, [1, 0]), odd(1, [1, 1])]
